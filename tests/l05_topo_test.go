@@ -301,8 +301,9 @@ func TestUnusualLinks(t *testing.T) {
 		expectFar(t, p, 0, iface, 1, iface+2)
 	}
 	expectInts(t, "interfaces without a kind", impl.InterfacesOfKind(p, 0, impl.ToNone), 2, 3, 4)
-	expectInts(t, "Interfaces of 0", impl.Interfaces(p, 0), 2, 3, 4)
-	expectInts(t, "Interfaces of 1", impl.Interfaces(p, 1), 4, 5, 6)
+	expectInts(t, "interfaces to itself", impl.InterfacesOfKind(p, 0, impl.ToSelf), 0)
+	expectInts(t, "Interfaces of 0", impl.Interfaces(p, 0), 0, 2, 3, 4)
+	expectInts(t, "Interfaces of 1", impl.Interfaces(p, 1), 4, 5, 6, 7)
 	expectFar(t, p, 0, 0, 1, 7)
 	expectKind(t, p, 0, 0, impl.ToSelf)
 	expectInt(t, "LinkIndex of interface 0", impl.LinkIndex(p, 0, 0), 3)
@@ -315,9 +316,37 @@ func TestUnusualLinks(t *testing.T) {
 	expectFar(t, p, math.MinInt, math.MinInt, math.MaxInt, math.MaxInt)
 	expectKind(t, p, math.MaxInt, math.MaxInt, impl.ToPeer)
 	expectInts(t, "Interfaces of 1000", impl.Interfaces(p, 1000), 1)
+	expectInts(t, "Interfaces of the least AS", impl.Interfaces(p, math.MinInt), math.MinInt)
+	expectInts(t, "Interfaces of the greatest AS", impl.Interfaces(p, math.MaxInt), math.MaxInt)
+	expectInts(t, "peer interfaces of the greatest AS", impl.InterfacesOfKind(p, math.MaxInt, impl.ToPeer), math.MaxInt)
 	if impl.ValidTopology(p) {
 		t.Error("valid")
 	}
+}
+
+// In a topology that is not valid, an interface that is not in the range 1 to MaxInterfaces has a link all the same.
+func TestInterfacesBeyondTheRange(t *testing.T) {
+	p := impl.Topology{ASes: []impl.AS{{Core: true, Key: 1}, {Key: 2}}, Links: []impl.Link{
+		{A: 0, AInterface: 7, B: 1, BInterface: 1, Kind: impl.LkChild},
+		{A: 0, AInterface: -2, B: 1, BInterface: 0, Kind: impl.LkChild},
+	}}
+	expectInts(t, "Interfaces of 0", impl.Interfaces(p, 0), -2, 7)
+	expectInts(t, "Interfaces of 1", impl.Interfaces(p, 1), 0, 1)
+	expectInts(t, "child interfaces of 0", impl.InterfacesOfKind(p, 0, impl.ToChild), -2, 7)
+	expectInts(t, "parent interfaces of 1", impl.InterfacesOfKind(p, 1, impl.ToParent), 1)
+	expectInts(t, "interfaces of 1 to itself", impl.InterfacesOfKind(p, 1, impl.ToSelf), 0)
+	// However many links use an interface, it is there once, with the kind of the first link.
+	p.Links = append(p.Links,
+		impl.Link{A: 0, AInterface: 7, B: 1, BInterface: 9, Kind: impl.LkPeer},
+		impl.Link{A: 1, AInterface: 0, B: 0, BInterface: -2, Kind: impl.LkPeer},
+		impl.Link{A: 1, AInterface: 100, B: 1, BInterface: 100, Kind: impl.LkCore},
+	)
+	expectInts(t, "Interfaces of 0", impl.Interfaces(p, 0), -2, 7)
+	expectInts(t, "Interfaces of 1", impl.Interfaces(p, 1), 0, 1, 9, 100)
+	expectInts(t, "child interfaces of 0", impl.InterfacesOfKind(p, 0, impl.ToChild), -2, 7)
+	expectInts(t, "peer interfaces of 0", impl.InterfacesOfKind(p, 0, impl.ToPeer))
+	expectInts(t, "peer interfaces of 1", impl.InterfacesOfKind(p, 1, impl.ToPeer), 9)
+	expectInts(t, "core interfaces of 1", impl.InterfacesOfKind(p, 1, impl.ToCore), 100)
 }
 
 // modelEnd finds the link, the far end and its kind by the document's words, for topologies of any kind.
@@ -357,7 +386,7 @@ func TestManyTopologies(t *testing.T) {
 				expectFar(t, p, as, iface, far, farInterface)
 				expectKind(t, p, as, iface, kind)
 				expectInt(t, "LinkIndex", impl.LinkIndex(p, as, iface), index)
-				if index >= 0 && iface >= 1 && iface <= impl.MaxInterfaces {
+				if index >= 0 {
 					interfaces = append(interfaces, iface)
 					byKind[kind] = append(byKind[kind], iface)
 				}

@@ -11,7 +11,8 @@ import (
 // modelStep returns, for every AS from 0 to 15, whether it stands behind an interface of this kind of r.
 func modelStep(p impl.Topology, r int, kind int) [16]bool {
 	var near [16]bool
-	for iface := 1; iface <= impl.MaxInterfaces; iface++ {
+	// A topology that is not valid may have links at interfaces beyond the range.
+	for iface := -2; iface <= impl.MaxInterfaces+2; iface++ {
 		_, far, _, k := modelEnd(p, r, iface)
 		if k == kind && far >= 0 && far < 16 {
 			near[far] = true
@@ -287,12 +288,44 @@ func TestCoreComponentsOfOtherTopologies(t *testing.T) {
 	expectInt(t, "CoreComponent of 7", impl.CoreComponent(p, 7), 128)
 	p.Links = append(p.Links, impl.Link{A: 2, AInterface: 5, B: 12, BInterface: 1, Kind: impl.LkCore})
 	expectInt(t, "CoreComponent with an AS that does not exist", impl.CoreComponent(p, 1), 1<<12+7)
-	p = ring(20, impl.LkCore)
-	expectInt(t, "CoreComponent of 19", impl.CoreComponent(p, 19), 1<<9-1)
-	expectInt(t, "CoreComponent of 18", impl.CoreComponent(p, 18), 0)
-	expectInt(t, "CoreComponent of 20", impl.CoreComponent(p, 20), 0)
-	p.ASes[19].Core = false
-	expectInt(t, "CoreComponent of 19, not a core AS", impl.CoreComponent(p, 19), 0)
+	p = ring(8, impl.LkCore)
+	p.ASes[3].Core = false
+	expectInt(t, "CoreComponent of 3, not a core AS", impl.CoreComponent(p, 3), 0)
+}
+
+// No set holds a core AS beyond 15: it is not gone on from, even if the way begins there.
+func TestCoreComponentsBeyondSets(t *testing.T) {
+	p := ring(20, impl.LkCore)
+	for r := 16; r <= 20; r++ {
+		expectInt(t, "CoreComponent beyond 15", impl.CoreComponent(p, r), 0)
+	}
+	expectInt(t, "CoreComponent of 15", impl.CoreComponent(p, 15), 1<<16-1<<6)
+	expectInt(t, "CoreComponent of 0", impl.CoreComponent(p, 0), 1<<10-1)
+	p.Links = []impl.Link{{A: 3, AInterface: 1, B: 16, BInterface: 1, Kind: impl.LkCore}, {A: 16, AInterface: 2, B: 5, BInterface: 1, Kind: impl.LkCore}}
+	expectInt(t, "CoreComponent of 16", impl.CoreComponent(p, 16), 0)
+	expectInt(t, "CoreComponent of 3", impl.CoreComponent(p, 3), 1<<3)
+	expectInt(t, "CoreComponent of 5", impl.CoreComponent(p, 5), 1<<5)
+	expectInt(t, "CoreComponent of 15 without links", impl.CoreComponent(p, 15), 1<<15)
+}
+
+// The hierarchy steps over the interfaces that have a link, in the range 1 to MaxInterfaces or not.
+func TestHierarchyOverInterfacesBeyondTheRange(t *testing.T) {
+	p := impl.Topology{ASes: []impl.AS{{Core: true, Key: 1}, {Key: 2}, {Key: 3}, {Core: true, Key: 4}}, Links: []impl.Link{
+		{A: 0, AInterface: 7, B: 1, BInterface: -2, Kind: impl.LkChild},
+		{A: 1, AInterface: math.MaxInt, B: 2, BInterface: 0, Kind: impl.LkChild},
+		{A: 0, AInterface: math.MinInt, B: 3, BInterface: 8, Kind: impl.LkCore},
+	}}
+	expectInts(t, "Children of 0", impl.Children(p, 0), 1)
+	expectInts(t, "Parents of 1", impl.Parents(p, 1), 0)
+	expectInt(t, "Descendants of 0", impl.Descendants(p, 0), 6)
+	expectInt(t, "Ancestors of 1", impl.Ancestors(p, 1), 1)
+	expectInt(t, "Depth of 1", impl.Depth(p, 1), 1)
+	expectInts(t, "ReachableCores of 1", impl.ReachableCores(p, 1), 0)
+	expectInt(t, "CoreComponent of 0", impl.CoreComponent(p, 0), 9)
+	expectInt(t, "CoreComponent of 3", impl.CoreComponent(p, 3), 9)
+	// The interface 0 leads to the AS itself.
+	expectInts(t, "Parents of 2", impl.Parents(p, 2))
+	expectInt(t, "Ancestors of 2", impl.Ancestors(p, 2), 0)
 }
 
 func TestReachableCoresAreCoreASesThatExist(t *testing.T) {
@@ -336,11 +369,8 @@ func compareHierarchy(t *testing.T, p impl.Topology, as int) {
 		}
 	}
 	expectInts(t, "ReachableCores", impl.ReachableCores(p, as), cores...)
-	if modelCoreAS(p, as) {
-		component = unionOf(modelLevels(p, as, impl.ToCore, 9))
-		if as < 16 {
-			component |= 1 << as
-		}
+	if modelCoreAS(p, as) && as < 16 {
+		component = 1<<as | unionOf(modelLevels(p, as, impl.ToCore, 9))
 	}
 	expectInt(t, "CoreComponent", impl.CoreComponent(p, as), component)
 }
