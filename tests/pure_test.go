@@ -85,8 +85,11 @@ func plain(v reflect.Value) reflect.Value {
 			c.Field(i).Set(plain(v.Field(i)))
 		}
 	case reflect.Slice:
+		if v.Len() > 0 {
+			c.Set(reflect.MakeSlice(v.Type(), v.Len(), v.Len()))
+		}
 		for i := range v.Len() {
-			c.Set(reflect.Append(c, plain(v.Index(i))))
+			c.Index(i).Set(plain(v.Index(i)))
 		}
 	default:
 		c.Set(v)
@@ -94,9 +97,30 @@ func plain(v reflect.Value) reflect.Value {
 	return c
 }
 
+// areSame reports whether a and b, of one type, are equal, where nil and empty slices are equivalent.
+func areSame(a reflect.Value, b reflect.Value) bool {
+	switch a.Kind() {
+	case reflect.Struct:
+		for i := range a.NumField() {
+			if !areSame(a.Field(i), b.Field(i)) {
+				return false
+			}
+		}
+		return true
+	case reflect.Slice:
+		for i := range min(a.Len(), b.Len()) {
+			if !areSame(a.Index(i), b.Index(i)) {
+				return false
+			}
+		}
+		return a.Len() == b.Len()
+	}
+	return a.Equal(b)
+}
+
 // same reports whether a and b are equal, where nil and empty slices are equivalent.
 func same[T any](a T, b T) bool {
-	return reflect.DeepEqual(plain(reflect.ValueOf(&a).Elem()).Interface(), plain(reflect.ValueOf(&b).Elem()).Interface())
+	return areSame(reflect.ValueOf(&a).Elem(), reflect.ValueOf(&b).Elem())
 }
 
 func expectSame[T any](t *testing.T, what string, got T, want T) {

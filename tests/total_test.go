@@ -5,6 +5,7 @@ import (
 	"reflect"
 	"runtime"
 	"slices"
+	"sync"
 	"testing"
 
 	"loop.example/g00505/impl"
@@ -59,9 +60,62 @@ func anySegment(r *rand.Rand) impl.Segment {
 	return impl.Segment{Timestamp: anyNumber(r), Beta: anyNumber(r), Hops: anyHops(r)}
 }
 
+// pathsOnce are paths of the world, which take some time to build.
+var pathsOnce = sync.OnceValue(func() []impl.Path {
+	return append(worldPaths(), impl.Path{}, valley())
+})
+
+func anyPath(r *rand.Rand) impl.Path {
+	l := pathsOnce()
+	return copyOf(l[r.Intn(len(l))])
+}
+
+// anyPacket is one on its way, which may be changed.
+func anyPacket(r *rand.Rand) impl.Packet {
+	l := stops(impl.NewPacket(1+r.Intn(3), anyPath(r), r.Intn(4), r.Intn(4), encodeAll(r.Intn(9), r.Intn(8), r.Intn(99))))
+	pk := l[r.Intn(len(l))]
+	if len(pk.Path.Parts) > 0 && r.Intn(3) == 0 {
+		changes := packetChanges(pk)
+		changes[r.Intn(len(changes))](&pk)
+	}
+	return pk
+}
+
+// invalidOnce is invalidNetworks, which take some time to build.
+var invalidOnce = sync.OnceValue(invalidNetworks)
+
+// anyNetwork is mostly valid.
+func anyNetwork(r *rand.Rand) impl.Network {
+	switch r.Intn(5) {
+	case 0:
+		l := invalidOnce()
+		return l[r.Intn(len(l))]
+	case 1:
+		return randomNetwork(r)
+	case 2:
+		w := busy()
+		changes := networkChanges(w)
+		changes[r.Intn(len(changes))](&w)
+		return w
+	}
+	return busy()
+}
+
 // anyValue returns a value of this type, which is valid in some of its parts.
 func anyValue(r *rand.Rand, kind reflect.Type) reflect.Value {
 	switch kind {
+	case reflect.TypeFor[impl.Path]():
+		if r.Intn(2) == 0 {
+			return reflect.ValueOf(anyPath(r))
+		}
+	case reflect.TypeFor[impl.Packet]():
+		if r.Intn(2) == 0 {
+			return reflect.ValueOf(anyPacket(r))
+		}
+	case reflect.TypeFor[impl.Network]():
+		if r.Intn(4) > 0 {
+			return reflect.ValueOf(anyNetwork(r))
+		}
 	case reflect.TypeFor[impl.Topology]():
 		return reflect.ValueOf(anyTopology(r))
 	case reflect.TypeFor[impl.Segment]():
@@ -78,7 +132,7 @@ func anyValue(r *rand.Rand, kind reflect.Type) reflect.Value {
 	case reflect.Bool:
 		v.SetBool(r.Intn(2) == 0)
 	case reflect.String:
-		v.SetString([]string{"", "-", "0-1", "1-5", "x", "01"}[r.Intn(6)])
+		v.SetString([]string{"", "-", "0-1", "1-5", "x", "01", familyLines + randomLine(r), "start 4\n" + randomLine(r)}[r.Intn(8)])
 	case reflect.Struct:
 		for i := range kind.NumField() {
 			v.Field(i).Set(anyValue(r, kind.Field(i).Type))
@@ -91,7 +145,7 @@ func anyValue(r *rand.Rand, kind reflect.Type) reflect.Value {
 	return v
 }
 
-// TestEveryFunctionIsTotal calls the functions of the chapters 15 to 28 with arguments of any kind.
+// TestEveryFunctionIsTotal calls the functions of the chapters 15 to 40 with arguments of any kind.
 func TestEveryFunctionIsTotal(t *testing.T) {
 	functions := []any{
 		impl.NewBeaconing, impl.Originated, impl.Propagated, impl.DeliverBeacons, impl.RunBeaconRound, impl.RunBeaconing, impl.BeaconCount,
@@ -108,6 +162,18 @@ func TestEveryFunctionIsTotal(t *testing.T) {
 		impl.NewPacket, impl.ValidPacket, impl.CurrentAS, impl.EncodePacket, impl.DecodePacket, impl.EqualPackets, impl.AtLastHop, impl.FormatPacket,
 		impl.TransitAllowed, impl.StepAllowed, impl.PathAllowed, impl.FirstForbiddenStep, impl.UpSteps, impl.DownSteps, impl.CoreSteps,
 		impl.AdvanceHop, impl.VerifyCurrentHop, impl.CurrentHopValid, impl.Forward, impl.VerdictName, impl.EqualVerdicts,
+		impl.FailedInterfaces, impl.Traverse, impl.TraceInterfaces, impl.Reaches, impl.WorkingPaths, impl.EqualSteps, impl.FormatTrace,
+		impl.ReverseKind, impl.ReversePart, impl.ReversePath, impl.Reply, impl.ReverseSteps, impl.Bidirectional, impl.OppositeEndpoints,
+		impl.ValidRevocation, impl.Affects, impl.AddRevocation, impl.ActiveRevocations, impl.Revoked, impl.PreferUnrevoked, impl.EncodeRevocation, impl.DecodeRevocation,
+		impl.ValidReservation, impl.ReservedRate, impl.ReservationRate, impl.Admit, impl.Release, impl.ActiveReservations, impl.ValidReservations, impl.FreeRate,
+		impl.EgressSteps, impl.ReservePath, impl.PathReserved, impl.PathRate, impl.AvailableRate, impl.ReservationIDs, impl.EqualReservations,
+		impl.NewScheduler, impl.ValidScheduler, impl.UsedCount, impl.Transmit, impl.BeginTick, impl.SentCount, impl.EqualSchedulers,
+		impl.NewFlow, impl.ValidFlow, impl.Enqueue, impl.SetPaths, impl.NextTransmission, impl.TickFlow, impl.HandleAck, impl.HandleRevocation,
+		impl.NewInbox, impl.ValidInbox, impl.HandleData, impl.MakeAck, impl.FindInbox, impl.ConsistentWith, impl.EqualInboxes,
+		impl.NewNetwork, impl.AddFlow, impl.ValidNetwork, impl.TruncatePath, impl.MakeRevocation, impl.ProcessPacket, impl.EqualNetworks,
+		impl.ApplyEvent, impl.RunEvents, impl.CountApplied, impl.Harmless, impl.Counters, impl.EventName,
+		impl.DeliverPackets, impl.RunRound, impl.RunRounds, impl.WorkingPath, impl.SettlingRounds, impl.AllDelivered, impl.Settle, impl.IsIdle,
+		impl.Execute,
 	}
 	r := rand.New(rand.NewSource(20))
 	for _, f := range functions {
